@@ -232,9 +232,8 @@ func AngleTurns(y, x float32) float32 {
 		return 0
 	}
 	a, b := math.Abs(float64(y)), math.Abs(float64(x))
-	steep := a > b
 	angle := 0.0
-	if steep {
+	if a > b {
 		angle = 0.25 - flatAngle(b/a)
 	} else {
 		angle = flatAngle(a / b)
@@ -402,15 +401,24 @@ func joinTexts(parts []string) string {
 	return strings.Join(parts, ",")
 }
 
-// splitText returns the texts of the numbers of a list, at most most of them.
-func splitText(s string, most int) ([]string, bool) {
+// readItems returns the list with the given text, in which read tells what a
+// text between two commas stands for; it has at most most items.
+func readItems[T any](s string, most int, read func(string) (T, bool)) ([]T, bool) {
 	if s == emptyText {
 		return nil, true
 	}
 	if strings.Count(s, ",") >= most {
 		return nil, false
 	}
-	return strings.Split(s, ","), true
+	list := []T{}
+	for _, part := range strings.Split(s, ",") {
+		item, ok := read(part)
+		if !ok {
+			return nil, false
+		}
+		list = append(list, item)
+	}
+	return list, true
 }
 
 // bitsText returns the hexadecimal digits of a number.
@@ -465,19 +473,7 @@ func NumbersText(list []float32) (string, bool) {
 
 // ReadNumbers returns the numbers with the given text.
 func ReadNumbers(s string) ([]float32, bool) {
-	parts, ok := splitText(s, MaxNumbers)
-	if !ok {
-		return nil, false
-	}
-	list := make([]float32, len(parts))
-	for i, part := range parts {
-		x, ok := readBits(part)
-		if !ok {
-			return nil, false
-		}
-		list[i] = x
-	}
-	return list, true
+	return readItems(s, MaxNumbers, readBits)
 }
 
 // ComplexText returns the text of complex numbers.
@@ -507,19 +503,7 @@ func readBothBits(s string) (complex64, bool) {
 
 // ReadComplex returns the complex numbers with the given text.
 func ReadComplex(s string) ([]complex64, bool) {
-	parts, ok := splitText(s, MaxNumbers)
-	if !ok {
-		return nil, false
-	}
-	list := make([]complex64, len(parts))
-	for i, part := range parts {
-		x, ok := readBothBits(part)
-		if !ok {
-			return nil, false
-		}
-		list[i] = x
-	}
-	return list, true
+	return readItems(s, MaxNumbers, readBothBits)
 }
 
 // IsName reports whether s is a name.
@@ -572,19 +556,7 @@ func ListText(list []int64) (string, bool) {
 
 // ReadList returns the list with the given text.
 func ReadList(s string) ([]int64, bool) {
-	parts, ok := splitText(s, MaxItems)
-	if !ok {
-		return nil, false
-	}
-	list := make([]int64, len(parts))
-	for i, part := range parts {
-		n, ok := ReadDecimal(part)
-		if !ok {
-			return nil, false
-		}
-		list[i] = n
-	}
-	return list, true
+	return readItems(s, MaxItems, ReadDecimal)
 }
 
 // CheckOf returns the check number of a text.
