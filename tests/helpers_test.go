@@ -94,6 +94,19 @@ func shown(values ...any) string {
 	return b.String()
 }
 
+func wantSame(t *testing.T, what, got, want string) {
+	t.Helper()
+	if got != want {
+		t.Errorf("%s: got %s, want %s", what, got, want)
+	}
+}
+
+// wantShown checks what is shown of some results.
+func wantShown(t *testing.T, what, got string, want ...any) {
+	t.Helper()
+	wantSame(t, what, got, shown(want...))
+}
+
 // repeated is a list with count times the same value, and spare room behind it.
 func repeated[T any](value T, count int) []T {
 	list := make([]T, count, count+3)
