@@ -114,12 +114,12 @@ func TestPromise1CountsReturnEqualResults(t *testing.T) {
 }
 
 // roomy is a copy of a list with other numbers in the room behind it.
-func roomy(list []int64) []int64 {
-	return append(append([]int64{}, list...), 77, 78, 79)[:len(list)]
+func roomy[T int64 | float32](list []T) []T {
+	return append(append([]T{}, list...), 77, 78, 79)[:len(list)]
 }
 
 // whole is a list with the room behind it.
-func whole(list []int64) []int64 {
+func whole[T any](list []T) []T {
 	return list[:cap(list)]
 }
 
@@ -210,8 +210,18 @@ func TestPromise1CountsKeepLayers(t *testing.T) {
 	wantSame(t, "layers", show(), before)
 }
 
+// spoilAny changes a list of integers, or of numbers, and the room behind it.
+func spoilAny(list any) {
+	switch x := list.(type) {
+	case []int64:
+		spoil(x)
+	case []float32:
+		spoil(x)
+	}
+}
+
 // wantNew checks that the lists of a result share memory neither with each other nor with the lists of the arguments.
-func wantNew(t *testing.T, what string, args [][]int64, call func() [][]int64) {
+func wantNew[T any](t *testing.T, what string, args []T, call func() []T) {
 	t.Helper()
 	before, kept := call(), shown(args)
 	want := shown(before)
@@ -219,11 +229,11 @@ func wantNew(t *testing.T, what string, args [][]int64, call func() [][]int64) {
 		lists := call()
 		for k, list := range lists {
 			if k != i {
-				spoil(list)
+				spoilAny(list)
 			}
 		}
 		wantSame(t, what, shown(lists[i]), shown(call()[i]))
-		spoil(lists[i])
+		spoilAny(lists[i])
 	}
 	wantSame(t, what, shown(call())+shown(args), want+kept)
 }
@@ -266,7 +276,7 @@ func TestPromise1CountsReturnNewCells(t *testing.T) {
 
 func TestPromise1CountsReturnNewTops(t *testing.T) {
 	top := tops(4, roomy([]int64{9, 4}), roomy([]int64{5, 5}), roomy([]int64{1, 1}))
-	empty := tops(4, roomy(nil), roomy(nil), roomy(nil))
+	empty := tops(4, roomy([]int64{}), roomy([]int64{}), roomy([]int64{}))
 	args := [][]int64{whole(top.Keys), whole(top.Counts), whole(top.Errors), whole(empty.Keys), whole(empty.Counts), whole(empty.Errors)}
 	calls := map[string]func() (impl.Tops, bool){
 		"PutTop":                func() (impl.Tops, bool) { return impl.PutTop(top, 9) },
