@@ -34,21 +34,28 @@ func toldNumbers(n int, tell func(i int) float32) []float32 {
 // notFinite are the bits of numbers that are not finite.
 var notFinite = []uint32{plusInf, minusInf, noNumber, 0xffc00000, 0x7f800001, 0xffffffff}
 
-// notLists are no lists, too short ones and too long ones among them.
-func notLists() map[string][]float32 {
+// notListsUpTo are no lists of 1 to most finite numbers.
+func notListsUpTo(most int) map[string][]float32 {
 	lists := map[string][]float32{
-		"nil":          nil,
-		"no numbers":   {},
-		"257 numbers":  countUp(257),
-		"5000 numbers": countUp(5000),
+		"nil":                nil,
+		"no numbers":         {},
+		"one too many":       countUp(most + 1),
+		"twice as many":      countUp(2 * most),
+		"5000 numbers":       countUp(5000),
+		"5000 equal numbers": repeated(float32(0), 5000),
 	}
 	for _, bits := range notFinite {
 		what := impl.Decimal(int64(bits))
 		lists["only "+what] = numbers(bits)
 		lists["at first "+what] = numbers(bits, 0x3f800000, 0x40000000)
-		lists["at last "+what] = append(countUp(255), number(bits))
+		lists["at last "+what] = append(countUp(most-1), number(bits))
 	}
 	return lists
+}
+
+// notLists are no lists, too short ones and too long ones among them.
+func notLists() map[string][]float32 {
+	return notListsUpTo(256)
 }
 
 // wrongShares are no shares; some of them are next to one.

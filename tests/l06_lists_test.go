@@ -36,20 +36,7 @@ func notReadings() map[string][]int64 {
 
 // notStreams are no lists of numbers of a stream.
 func notStreams() map[string][]float32 {
-	lists := map[string][]float32{
-		"nil":          nil,
-		"no numbers":   {},
-		"129 numbers":  countUp(129),
-		"256 numbers":  countUp(256),
-		"5000 numbers": repeated(float32(7), 5000),
-	}
-	for _, bits := range notFinite {
-		what := impl.Decimal(int64(bits))
-		lists["only "+what] = numbers(bits)
-		lists["at first "+what] = numbers(bits, oneBits, oneBits)
-		lists["at last "+what] = append(repeated(float32(1), 127), number(bits))
-	}
-	return lists
+	return notListsUpTo(128)
 }
 
 func TestIntegersOfWindow(t *testing.T) {

@@ -114,7 +114,7 @@ func TestPromise1CountsReturnEqualResults(t *testing.T) {
 }
 
 // roomy is a copy of a list with other numbers in the room behind it.
-func roomy[T int64 | float32](list []T) []T {
+func roomy[T int64 | float32 | complex64](list []T) []T {
 	return append(append([]T{}, list...), 77, 78, 79)[:len(list)]
 }
 
@@ -210,13 +210,19 @@ func TestPromise1CountsKeepLayers(t *testing.T) {
 	wantSame(t, "layers", show(), before)
 }
 
-// spoilAny changes a list of integers, or of numbers, and the room behind it.
+// spoilAny changes a list of integers, of numbers, or of bits, and the room behind it.
 func spoilAny(list any) {
 	switch x := list.(type) {
 	case []int64:
 		spoil(x)
 	case []float32:
 		spoil(x)
+	case []complex64:
+		spoil(x)
+	case []bool:
+		for i, bit := range whole(x) {
+			x[:cap(x)][i] = !bit
+		}
 	}
 }
 

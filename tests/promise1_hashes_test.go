@@ -103,7 +103,7 @@ func TestPromise1HashesKeepArguments(t *testing.T) {
 }
 
 // spoil changes a list and the room behind it.
-func spoil[T int64 | float32](list []T) {
+func spoil[T int64 | float32 | complex64](list []T) {
 	list = list[:cap(list)]
 	for i := range list {
 		list[i] = 99
